@@ -1,0 +1,108 @@
+// Package intervals: sets of numbers that hold what they must: see DOC.md.
+package intervals
+
+import (
+	"intervals/api"
+	"intervals/rounding"
+)
+
+// AddDown is the greatest float64 that is not above a + b (P3).
+func AddDown(a, b float64) float64 {
+	down, _ := rounding.Add(a, b)
+	return down
+}
+
+// AddUp is the least float64 that is not below a + b (P3).
+func AddUp(a, b float64) float64 {
+	_, up := rounding.Add(a, b)
+	return up
+}
+
+// MulDown is the greatest float64 that is not above a * b (P3).
+func MulDown(a, b float64) float64 {
+	down, _ := rounding.Mul(a, b)
+	return down
+}
+
+// MulUp is the least float64 that is not below a * b (P3).
+func MulUp(a, b float64) float64 {
+	_, up := rounding.Mul(a, b)
+	return up
+}
+
+// DivDown is the greatest float64 that is not above a / b (P3).
+func DivDown(a, b float64) float64 {
+	down, _ := rounding.Div(a, b)
+	return down
+}
+
+// DivUp is the least float64 that is not below a / b (P3).
+func DivUp(a, b float64) float64 {
+	_, up := rounding.Div(a, b)
+	return up
+}
+
+// SqrtDown is the greatest float64 that is not above the root of a (P3).
+func SqrtDown(a float64) float64 {
+	down, _ := rounding.Sqrt(a)
+	return down
+}
+
+// SqrtUp is the least float64 that is not below the root of a (P3).
+func SqrtUp(a float64) float64 {
+	_, up := rounding.Sqrt(a)
+	return up
+}
+
+// Add holds all a + b (P4).
+func Add(x, y api.Interval) api.Interval { return api.Interval{} }
+
+// Sub holds all a - b (P4).
+func Sub(x, y api.Interval) api.Interval { return api.Interval{} }
+
+// Mul holds all a * b (P4).
+func Mul(x, y api.Interval) api.Interval { return api.Interval{} }
+
+// Div holds all a / b (P4).
+func Div(x, y api.Interval) api.Interval { return api.Interval{} }
+
+// Sqr holds all a * a (P4).
+func Sqr(x api.Interval) api.Interval { return api.Interval{} }
+
+// Sqrt holds all roots (P4).
+func Sqrt(x api.Interval) api.Interval { return api.Interval{} }
+
+// Meet holds what is in both (P4).
+func Meet(x, y api.Interval) api.Interval { return api.Interval{} }
+
+// Hull holds what is in either (P4).
+func Hull(x, y api.Interval) api.Interval { return api.Interval{} }
+
+// BoxAdd holds all sums (P6).
+func BoxAdd(x, y api.Box) api.Box { return api.Box{} }
+
+// BoxSub holds all differences (P6).
+func BoxSub(x, y api.Box) api.Box { return api.Box{} }
+
+// BoxMul holds all products (P6).
+func BoxMul(x, y api.Box) api.Box { return api.Box{} }
+
+// DiscAdd holds all sums (P7).
+func DiscAdd(x, y api.Disc) api.Disc { return api.Disc{} }
+
+// DiscSub holds all differences (P7).
+func DiscSub(x, y api.Disc) api.Disc { return api.Disc{} }
+
+// DiscMul holds all products (P7).
+func DiscMul(x, y api.Disc) api.Disc { return api.Disc{} }
+
+// ToBox holds the disc (P8).
+func ToBox(x api.Disc) api.Box { return api.Box{} }
+
+// ToDisc holds the box (P8).
+func ToDisc(x api.Box) api.Disc { return api.Disc{} }
+
+// Eval runs a program over sets (P9 to P11).
+func Eval(program string, boxes []api.Box, discs []api.Disc, p api.Policy) (api.Value, error) {
+	return api.Value{}, nil
+}
