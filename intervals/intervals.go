@@ -3,6 +3,7 @@ package intervals
 
 import (
 	"intervals/api"
+	"intervals/line"
 	"intervals/rounding"
 )
 
@@ -55,28 +56,28 @@ func SqrtUp(a float64) float64 {
 }
 
 // Add holds all a + b (P4).
-func Add(x, y api.Interval) api.Interval { return api.Interval{} }
+func Add(x, y api.Interval) api.Interval { return line.Add(x, y) }
 
 // Sub holds all a - b (P4).
-func Sub(x, y api.Interval) api.Interval { return api.Interval{} }
+func Sub(x, y api.Interval) api.Interval { return line.Sub(x, y) }
 
 // Mul holds all a * b (P4).
-func Mul(x, y api.Interval) api.Interval { return api.Interval{} }
+func Mul(x, y api.Interval) api.Interval { return line.Mul(x, y) }
 
 // Div holds all a / b (P4).
-func Div(x, y api.Interval) api.Interval { return api.Interval{} }
+func Div(x, y api.Interval) api.Interval { return line.Div(x, y) }
 
 // Sqr holds all a * a (P4).
-func Sqr(x api.Interval) api.Interval { return api.Interval{} }
+func Sqr(x api.Interval) api.Interval { return line.Sqr(x) }
 
 // Sqrt holds all roots (P4).
-func Sqrt(x api.Interval) api.Interval { return api.Interval{} }
+func Sqrt(x api.Interval) api.Interval { return line.Sqrt(x) }
 
 // Meet holds what is in both (P4).
-func Meet(x, y api.Interval) api.Interval { return api.Interval{} }
+func Meet(x, y api.Interval) api.Interval { return line.Meet(x, y) }
 
 // Hull holds what is in either (P4).
-func Hull(x, y api.Interval) api.Interval { return api.Interval{} }
+func Hull(x, y api.Interval) api.Interval { return line.Hull(x, y) }
 
 // BoxAdd holds all sums (P6).
 func BoxAdd(x, y api.Box) api.Box { return api.Box{} }

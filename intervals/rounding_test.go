@@ -133,13 +133,13 @@ func against(r *big.Rat) order {
 	}
 }
 
-// againstRoot makes the order to the root of a, which need not be rational: it holds squares against a.
-func againstRoot(a float64) order {
+// againstRoot makes the order to the root of r, which need not be rational: it holds squares against r.
+func againstRoot(r *big.Rat) order {
 	return func(v float64) int {
 		if v < 0 || math.IsInf(v, 1) {
 			return int(math.Copysign(1, v))
 		}
-		return new(big.Rat).Mul(rat(v), rat(v)).Cmp(rat(a))
+		return new(big.Rat).Mul(rat(v), rat(v)).Cmp(r)
 	}
 }
 
@@ -155,7 +155,7 @@ func exactly(name string, a, b float64) order {
 	case name == "Div" && b != 0:
 		return against(new(big.Rat).Quo(rat(a), rat(b)))
 	case name == "Sqrt" && a >= 0:
-		return againstRoot(a)
+		return againstRoot(rat(a))
 	}
 	return nil
 }

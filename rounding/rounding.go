@@ -119,7 +119,7 @@ func (x exact) bounds() (down, up float64) {
 	if side > 0 {
 		up = math.Nextafter(near, math.Inf(1))
 	}
-	return plain(down), plain(up)
+	return Plain(down), Plain(up)
 }
 
 // side tells whether x is below near (-1), the same (0) or above (1). Where
@@ -132,8 +132,8 @@ func (x exact) side(near float64) int {
 	return cmp.Compare(x.tail, 0)
 }
 
-// plain makes -0 to 0, since no answer is -0.
-func plain(v float64) float64 {
+// Plain makes -0 to 0, since no answer is -0.
+func Plain(v float64) float64 {
 	if v == 0 {
 		return 0
 	}
