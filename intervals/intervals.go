@@ -4,6 +4,7 @@ package intervals
 import (
 	"intervals/api"
 	"intervals/line"
+	"intervals/plane"
 	"intervals/rounding"
 )
 
@@ -80,28 +81,28 @@ func Meet(x, y api.Interval) api.Interval { return line.Meet(x, y) }
 func Hull(x, y api.Interval) api.Interval { return line.Hull(x, y) }
 
 // BoxAdd holds all sums (P6).
-func BoxAdd(x, y api.Box) api.Box { return api.Box{} }
+func BoxAdd(x, y api.Box) api.Box { return plane.BoxAdd(x, y) }
 
 // BoxSub holds all differences (P6).
-func BoxSub(x, y api.Box) api.Box { return api.Box{} }
+func BoxSub(x, y api.Box) api.Box { return plane.BoxSub(x, y) }
 
 // BoxMul holds all products (P6).
-func BoxMul(x, y api.Box) api.Box { return api.Box{} }
+func BoxMul(x, y api.Box) api.Box { return plane.BoxMul(x, y) }
 
 // DiscAdd holds all sums (P7).
-func DiscAdd(x, y api.Disc) api.Disc { return api.Disc{} }
+func DiscAdd(x, y api.Disc) api.Disc { return plane.DiscAdd(x, y) }
 
 // DiscSub holds all differences (P7).
-func DiscSub(x, y api.Disc) api.Disc { return api.Disc{} }
+func DiscSub(x, y api.Disc) api.Disc { return plane.DiscSub(x, y) }
 
 // DiscMul holds all products (P7).
-func DiscMul(x, y api.Disc) api.Disc { return api.Disc{} }
+func DiscMul(x, y api.Disc) api.Disc { return plane.DiscMul(x, y) }
 
 // ToBox holds the disc (P8).
-func ToBox(x api.Disc) api.Box { return api.Box{} }
+func ToBox(x api.Disc) api.Box { return plane.ToBox(x) }
 
 // ToDisc holds the box (P8).
-func ToDisc(x api.Box) api.Disc { return api.Disc{} }
+func ToDisc(x api.Box) api.Disc { return plane.ToDisc(x) }
 
 // Eval runs a program over sets (P9 to P11).
 func Eval(program string, boxes []api.Box, discs []api.Disc, p api.Policy) (api.Value, error) {
