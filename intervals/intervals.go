@@ -5,6 +5,7 @@ import (
 	"intervals/api"
 	"intervals/line"
 	"intervals/plane"
+	"intervals/programs"
 	"intervals/rounding"
 )
 
@@ -106,5 +107,5 @@ func ToDisc(x api.Box) api.Disc { return plane.ToDisc(x) }
 
 // Eval runs a program over sets (P9 to P11).
 func Eval(program string, boxes []api.Box, discs []api.Disc, p api.Policy) (api.Value, error) {
-	return api.Value{}, nil
+	return programs.Eval(program, boxes, discs, p)
 }

@@ -1,4 +1,4 @@
-// Package plane: sets of complex numbers, held as boxes and as discs (P6 to P8).
+// Package plane: sets of complex numbers, held as boxes and as discs (P6 to P8, and the conjugates of P11).
 package plane
 
 import (
@@ -29,6 +29,11 @@ func BoxMul(x, y api.Box) api.Box {
 	re := line.Sub(line.Mul(x.Re, y.Re), line.Mul(x.Im, y.Im))
 	im := line.Add(line.Mul(x.Re, y.Im), line.Mul(x.Im, y.Re))
 	return boxOf(re, im)
+}
+
+// BoxConj has all conjugates.
+func BoxConj(x api.Box) api.Box {
+	return boxOf(line.Plain(x.Re), line.Plain(line.Neg(x.Im)))
 }
 
 // boxOf lays two parts together. One part without numbers leaves the box

@@ -57,6 +57,18 @@ func radOfProducts(x, y api.Disc) float64 {
 	return addUp(addUp(ofY, ofX), mulUp(x.Rad, y.Rad))
 }
 
+// DiscConj has all conjugates.
+func DiscConj(x api.Disc) api.Disc {
+	switch {
+	case hasNone(x):
+		return NoDisc()
+	case hasAll(x):
+		return AllDisc()
+	}
+	mid := complex(rounding.Plain(real(x.Mid)), 0-imag(x.Mid)) // not -imag: that makes -0 of 0
+	return api.Disc{Mid: mid, Rad: rounding.Plain(x.Rad)}
+}
+
 // ToBox has the numbers of x.
 func ToBox(x api.Disc) api.Box {
 	switch {
